@@ -1,0 +1,1 @@
+"""Nestnote: numbers, words and lists within lists on one line."""

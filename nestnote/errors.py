@@ -1,0 +1,13 @@
+"""The program's refusals."""
+
+
+class NoteError(ValueError):
+    pass
+
+
+class NoThing(NoteError):
+    pass
+
+
+class NoPart(NoteError):
+    pass
